@@ -1,0 +1,1 @@
+"""Callsmith: a small language told by its trees and by a machine."""
