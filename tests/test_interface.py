@@ -9,10 +9,15 @@ PACKAGE = os.path.join(os.path.dirname(os.path.dirname(os.path.abspath(__file__)
 CLASSES = {
     "errors": ("SmithError", "NameTwice", "NoSuchName", "NoSuchFunction", "WrongCount",
                "TooTall", "ByNought", "TooGreat", "TooDeep", "Dry"),
+    "smith": ("Code",),
 }
+METHODS = {"smith": {"Code": {"__init__": ["self", "rows", "starts"]}}}
 FUNCTIONS = {
     "deeds": {"reckoned": ["word", "one", "other"]},
     "trees": {"within": ["tree"], "checked": ["program"]},
+    "telling": {"told": ["program", "name", "values", "fuel"]},
+    "smith": {"smithed": ["program"]},
+    "machine": {"run": ["code", "name", "values", "fuel"]},
 }
 VALUES = {"deeds": ("MOST",)}
 
@@ -20,6 +25,12 @@ VALUES = {"deeds": ("MOST",)}
 def rows_of(module):
     with open(os.path.join(PACKAGE, module + ".py"), encoding="utf-8") as file:
         return ast.parse(file.read()).body
+
+
+def arguments(rows):
+    """The arguments of the functions that stand in these rows, by their names."""
+    return {row.name: [arg.arg for arg in row.args.args]
+            for row in rows if isinstance(row, ast.FunctionDef)}
 
 
 def files():
@@ -35,10 +46,17 @@ class Interface(unittest.TestCase):
 
     def test_functions_are_defined_in_their_files(self):
         for module, functions in FUNCTIONS.items():
-            found = {row.name: [arg.arg for arg in row.args.args]
-                     for row in rows_of(module) if isinstance(row, ast.FunctionDef)}
+            found = arguments(rows_of(module))
             for name, args in functions.items():
                 self.assertEqual(found.get(name), args, name)
+
+    def test_methods_are_defined_in_their_classes(self):
+        for module, classes in METHODS.items():
+            found = {row.name: arguments(row.body)
+                     for row in rows_of(module) if isinstance(row, ast.ClassDef)}
+            for name, methods in classes.items():
+                for method, args in methods.items():
+                    self.assertEqual(found[name].get(method), args, (name, method))
 
     def test_values_are_assigned_in_their_files(self):
         for module, names in VALUES.items():
